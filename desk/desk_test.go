@@ -300,7 +300,10 @@ func TestTrace(t *testing.T) {
 		"tick", "error 8")
 	talk(t, "add "+lamp, "add", "trace "+strings.Repeat("/", api.MaxTicks), "trace "+strings.Repeat("0/", api.MaxTicks), "trace "+strings.Repeat("/", api.MaxTicks+1), "error 4",
 		"trace "+strings.Repeat("1/", api.MaxTicks-1)+"1", "trace 0/"+strings.Repeat("1/", api.MaxTicks-1), "trace "+strings.Repeat("1/", api.MaxTicks)+"1", "error 4",
-		"trace x"+strings.Repeat("/", api.MaxTicks+1), "error 3", "trace "+strings.Repeat("/", api.MaxTicks)+"x", "error 4")
+		"trace x"+strings.Repeat("/", api.MaxTicks+1), "error 3", "trace "+strings.Repeat("/", api.MaxTicks)+"x", "error 3")
+	// What is wrong with the line behind the last one that may be is told ahead of there being one.
+	talk(t, "add "+lamp, "add", "trace "+strings.Repeat("/", api.MaxTicks)+" 1", "error 4", "trace "+strings.Repeat("8/", api.MaxTicks)+"8 +1/8/", "error 3",
+		"trace "+strings.Repeat("8/", api.MaxTicks)+"x /x", "error 3", "trace "+strings.Repeat("8/", api.MaxTicks)+"8/x/", "error 4", "trace "+strings.Repeat("/", api.MaxTicks)+"/x", "error 4")
 	// Several outputs, and none.
 	talk(t, "add chart c { output x; input a; output y := 1; region { initial state s { during x := x + a, y := -x; } } }", "add", "trace 5/5/6", "trace 0 1/5 -5/11 -11/")
 	talk(t, "add chart c { input a; region { initial state s; } }", "add", "trace 1/2", "trace //", "trace", "trace ")

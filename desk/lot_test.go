@@ -185,12 +185,12 @@ func (s *second) traced(c api.Chart, wrong error, rest string) (string, error) {
 		lines = lines[:len(lines)-1]
 	}
 	for i, line := range lines {
-		if i == 60 {
-			return "", api.ErrLimit
-		}
 		tick, err := read(line)
 		if err != nil {
 			return "", err
+		}
+		if i == 60 {
+			return "", api.ErrLimit
 		}
 		ins = append(ins, tick)
 	}

@@ -51,9 +51,6 @@ func second(s string) ([][]int64, api.Errno, int) {
 	}
 	var ticks [][]int64
 	for i, line := range strings.Split(strings.TrimSuffix(s, "\n"), "\n") {
-		if i == api.MaxTicks {
-			return nil, api.ErrLimit, -1
-		}
 		var tick []int64
 		if !form.MatchString(line) {
 			return nil, api.ErrForm, i
@@ -64,6 +61,9 @@ func second(s string) ([][]int64, api.Errno, int) {
 				return nil, api.ErrForm, i
 			}
 			tick = append(tick, n.Int64())
+		}
+		if i == api.MaxTicks {
+			return nil, api.ErrLimit, -1
 		}
 		ticks = append(ticks, tick)
 	}
@@ -152,6 +152,28 @@ func TestTextsByLot(t *testing.T) {
 	if found[api.OK] < 20000 || found[api.ErrForm] < 4000 || found[api.ErrLimit] < 200 {
 		t.Errorf("%v", found)
 	}
+}
+
+// Promise 14.1, and rule P3: the lines about the bound, of which some bytes are others.
+func TestLastLinesByLot(t *testing.T) {
+	l := lot{rand.New(rand.NewSource(145))}
+	found, both := map[api.Errno]int{}, 0
+	for range 20000 {
+		s := strings.Repeat(l.line(), api.MaxTicks-l.Intn(3)) + l.bent(Print(l.ticks(4, 3)))
+		found[agrees(t, s)]++
+		_, err := Read(s)
+		if _, place := plain.Place(err); place == api.MaxTicks {
+			both++
+		}
+	}
+	if found[api.OK] < 3000 || found[api.ErrForm] < 3000 || found[api.ErrLimit] < 3000 || both < 1000 {
+		t.Errorf("%v, of which %d are none and one too many", found, both)
+	}
+}
+
+// line is one that is well.
+func (l lot) line() string {
+	return []string{"\n", " \n", "8\n", " -1  0\n"}[l.Intn(4)]
 }
 
 // Promise 14.1: of a text with more blanks than it needs the same is read.

@@ -161,11 +161,33 @@ func TestManyLines(t *testing.T) {
 	limit(strings.Repeat("8\n", most) + "\n")
 	limit(strings.Repeat("8\n", 100000))
 	// What comes first from the beginning: a wrong line ahead of the one too many,
-	// or that one, whatever stands in it or behind it.
+	// or that one, whatever stands behind it.
 	wrong(t, strings.Repeat("8\n", most-1)+"x\n8\n", most-1)
 	wrong(t, "x\n"+strings.Repeat("8\n", most+5), 0)
-	limit(strings.Repeat("8\n", most) + "x")
-	limit(strings.Repeat("8\n", most) + "8\nx\n")
+	for _, well := range []string{"", " ", "8", " 8  -9 ", "0 9223372036854775807"} {
+		limit(strings.Repeat("8\n", most) + well + "\n")
+		limit(strings.Repeat("8\n", most) + well + "\nx")
+		limit(strings.Repeat("\n", most) + well + "\n+1\n8\n")
+	}
+}
+
+// Promise 14.1, and rule P3: of a line that is none, and is one too many, ErrForm is told,
+// which the document tells first.
+func TestLineTooMany(t *testing.T) {
+	const most = api.MaxTicks
+	for _, word := range []string{"x", "+1", "01", "-0", "-", "1\t", "\r", "9223372036854775808", "-9223372036854775809", "\x00", "٣"} {
+		for _, well := range []string{"\n", " \n", "8\n", "1 -2 3\n"} {
+			ahead := strings.Repeat(well, most)
+			wrong(t, ahead+word, most)
+			wrong(t, ahead+word+"\n", most)
+			wrong(t, ahead+" "+word+" ", most)
+			wrong(t, ahead+"8 "+word+"\n8\n", most)
+			wrong(t, ahead+word+" 8\nx\n", most)
+		}
+		// A line ahead of it that is none is told first.
+		wrong(t, strings.Repeat("8\n", most-1)+word+"\n"+word, most-1)
+		wrong(t, "x\n"+strings.Repeat("8\n", most-1)+word, 0)
+	}
 }
 
 // Promise 14.1: each a line, with one blank between.
